@@ -1,0 +1,1 @@
+"""Nets unfolded: what happens in a net, as events with what each needs and makes."""
