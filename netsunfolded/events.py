@@ -3,11 +3,22 @@
 from netsunfolded.nets import MOST_PLACES, Net, are_transitions_allowed, keeps_to_bounds, read_transitions
 from netsunfolded.rows import RowReader, is_rising_below
 from netsunfolded.unfolding import unfold
+from netsunfolded.ways import find_ways
 
 BEGIN = 1
 EVENTS = 2
 CONDITIONS = 3
 EVENT = 4
+TWO = 5
+THERE = 6
+REACH = 7
+WAY = 8
+
+THE_SAME = 0
+SECOND_NEEDS_FIRST = 1
+FIRST_NEEDS_SECOND = 2
+CLASH = 3
+SIDE_BY_SIDE = 4
 
 NOT_ALLOWED = -1
 NOT_THERE = -2
@@ -25,6 +36,8 @@ class Line:
 
     def __init__(self):
         self.unfolding = unfold(Net(1, [], ()))
+        # Found when they are first asked for: many calls may ask for them, or none.
+        self.ways = None
 
     def begin(self, places, transition_numbers, marking):
         # The refusals stand in the order in which the document tells them: the first that holds is answered.
@@ -42,6 +55,7 @@ class Line:
         if unfolding is None:
             return [TOO_MANY_EVENTS]
         self.unfolding = unfolding
+        self.ways = None
         cut_off = [event for event in unfolding.events if event.is_cut_off]
         return [len(unfolding.events), len(unfolding.conditions), len(cut_off)]
 
@@ -64,6 +78,50 @@ class Line:
         event = self.unfolding.events[number]
         return [len(event.needs)] + event.needs + list(event.marking)
 
+    def tell_two(self, first, second):
+        if max(first, second) >= len(self.unfolding.events):
+            return [NOT_THERE]
+        if first == second:
+            return [THE_SAME]
+        first_needs = self.unfolding.events[first].needs
+        second_needs = self.unfolding.events[second].needs
+        if first in second_needs:
+            return [SECOND_NEEDS_FIRST]
+        if second in first_needs:
+            return [FIRST_NEEDS_SECOND]
+        # What one event needs doesn't clash with itself, so a clash within both is one between them.
+        both = sorted(set(first_needs + second_needs))
+        return [CLASH if self.unfolding.is_clash_within(both) else SIDE_BY_SIDE]
+
+    def tell_there(self, conditions):
+        if not is_rising_below(conditions, len(self.unfolding.conditions)):
+            return [NOT_TOLD_SO]
+        return [1 if self.unfolding.can_be_at_once(conditions) else 0]
+
+    def known_ways(self):
+        if self.ways is None:
+            self.ways = find_ways(self.unfolding)
+        return self.ways
+
+    def tell_reach(self):
+        # Tuples are in the order that is asked for: by the first place that differs, one that ends there first.
+        markings = sorted(self.known_ways())
+        told = [len(markings)]
+        for marking in markings:
+            told.append(len(marking))
+            told.extend(marking)
+        return told
+
+    def tell_way(self, places):
+        if not is_rising_below(places, self.unfolding.net.places):
+            return [NOT_TOLD_SO]
+        ways = self.known_ways()
+        marking = tuple(places)
+        if marking not in ways:
+            return [NOT_THERE]
+        happened = ways[marking]
+        return [len(happened)] + [self.unfolding.events[event].transition for event in happened]
+
 
 def answer_next(line, reader):
     """Read one call and answer it."""
@@ -78,6 +136,15 @@ def answer_next(line, reader):
         return line.tell_conditions()
     if call == EVENT:
         return line.tell_event(reader.read_number())
+    if call == TWO:
+        first = reader.read_number()
+        return line.tell_two(first, reader.read_number())
+    if call == THERE:
+        return line.tell_there(reader.read_row())
+    if call == REACH:
+        return line.tell_reach()
+    if call == WAY:
+        return line.tell_way(reader.read_row())
     raise UnknownCall(f"no call {call}")
 
 

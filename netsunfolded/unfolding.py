@@ -11,6 +11,11 @@ def has_bit(bits, number):
     return (bits >> number) & 1 == 1
 
 
+def bits_of(conditions):
+    """These conditions, none twice, as one number."""
+    return sum([1 << condition for condition in conditions])
+
+
 class Condition:
     """Its place, and the event that made it or FROM_THE_BEGINNING."""
 
@@ -52,7 +57,7 @@ class Unfolding:
         """Add a condition for each place; common are the older ones that can be there with them."""
         first = len(self.conditions)
         made = list(range(first, first + len(places)))
-        made_bits = sum([1 << condition for condition in made])
+        made_bits = bits_of(made)
         for older in range(first):
             if has_bit(common, older):
                 self.beside[older] = self.beside[older] | made_bits
@@ -80,6 +85,24 @@ class Unfolding:
             if maker != FROM_THE_BEGINNING:
                 needed.extend(self.events[maker].needs)
         return sorted(set(needed))
+
+    def used_by(self, events):
+        """The conditions that these events used, each as often as it was used."""
+        used = []
+        for event in events:
+            used.extend(self.events[event].used)
+        return used
+
+    def is_clash_within(self, events):
+        """Whether two of these events, none of which is told twice, used a condition in common."""
+        used = self.used_by(events)
+        return len(set(used)) < len(used)
+
+    def can_be_at_once(self, conditions):
+        needed = self.needed_to_make(conditions)
+        if self.is_clash_within(needed):
+            return False
+        return len(set(self.used_by(needed)) & set(conditions)) == 0
 
     def marking_behind(self, events):
         """The places of what's there behind events that can have happened, rising."""

@@ -5,18 +5,9 @@ import unittest
 
 from tests.helper import CONDITIONS, EVENTS, FORTY_EVENTS, MANY_MARKINGS
 from tests.helper import answered, ask, ask_last, begin, event, expected, random_net, random_wild_net
+from tests.helper import transitions_of
 
 SIDE_BY_SIDE = begin(5, [([0], [2]), ([1], [3]), ([2, 3], [4])], [0, 1])
-
-
-def transitions_of(answer):
-    """The transitions of the events, from what events answers."""
-    found = []
-    at = 1
-    while at < len(answer):
-        found.append(answer[at])
-        at += 3 + answer[at + 2]
-    return found
 
 
 class Nets(unittest.TestCase):

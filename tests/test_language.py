@@ -50,6 +50,19 @@ def bound_names(tree):
     return names
 
 
+def is_called(node, *names):
+    return isinstance(node, ast.Call) and isinstance(node.func, ast.Name) and node.func.id in names
+
+
+def is_method(node, *names):
+    return isinstance(node, ast.Call) and isinstance(node.func, ast.Attribute) and node.func.attr in names
+
+
+def is_of_sets(node):
+    """Whether it is sets with an operator between."""
+    return isinstance(node, ast.BinOp) and is_called(node.left, "set") and is_called(node.right, "set")
+
+
 class Language(unittest.TestCase):
     def setUp(self):
         self.files = sorted(path for path in PACKAGE.rglob("*") if "__pycache__" not in path.parts)
@@ -157,11 +170,94 @@ class Language(unittest.TestCase):
             for kind in (int, str, list, dict, set, bytes, tuple):
                 self.assertFalse(hasattr(kind, name) and not name.startswith("__"), name)
 
+    def parents(self):
+        """Each node's parent, with where it stands."""
+        for where, node in self.nodes(ast.AST):
+            for child in ast.iter_child_nodes(node):
+                yield where, node, child
+
     def test_sets_are_not_kept(self):
-        for where, node in self.nodes(ast.Assign, ast.Return, ast.For):
-            made = node.iter if isinstance(node, ast.For) else node.value
-            if isinstance(made, ast.Call) and isinstance(made.func, ast.Name):
-                self.assertNotIn(made.func.id, ("set", "frozenset"), where)
+        self.assertEqual(list(self.nodes(ast.Set)), [])
+        for where, parent, node in self.parents():
+            if is_called(node, "set", "frozenset") or is_of_sets(node):
+                beside = isinstance(parent, ast.Compare) and isinstance(parent.ops[0], (ast.In, ast.NotIn))
+                within = is_called(parent, "sorted", "len") and parent.keywords == []
+                self.assertTrue(beside or within or is_of_sets(parent), where)
+
+    def test_walked_at_once(self):
+        walkers = "list tuple dict sorted sum any all enumerate zip min max".split()
+        for where, parent, node in self.parents():
+            if is_called(node, "zip", "enumerate", "reversed", "range") or is_method(node, "items", "keys", "values"):
+                walked = isinstance(parent, (ast.For, ast.comprehension)) and parent.iter == node
+                self.assertTrue(walked or is_called(parent, *walkers) and parent.args[0] == node, where)
+
+    def test_what_a_loop_walks_is_not_changed(self):
+        for where, loop in self.nodes(ast.For):
+            walked = {ast.unparse(node) for node in ast.walk(loop.iter) if isinstance(node, (ast.Name, ast.Attribute))}
+            for node in ast.walk(loop):
+                if is_method(node, "append", "clear", "extend", "insert", "pop", "remove", "reverse", "update"):
+                    self.assertNotIn(ast.unparse(node.func.value), walked, where)
+                if isinstance(node, ast.Subscript) and isinstance(node.ctx, ast.Store):
+                    self.assertNotIn(ast.unparse(node.value), walked, where)
+
+    def test_keywords(self):
+        allowed = {"sorted": ["key", "reverse"], "min": ["key", "default"], "max": ["key", "default"],
+                   "sum": ["start"], "enumerate": ["start"], "zip": ["strict"]}
+        for where, node in self.nodes(ast.Call):
+            for keyword in node.keywords:
+                self.assertIn(keyword.arg, allowed.get(getattr(node.func, "id", None), []), where)
+                if keyword.arg == "key" and not isinstance(keyword.value, ast.Lambda):
+                    self.assertIn(ast.unparse(keyword.value), "len int str abs sum min max tuple".split(), where)
+
+    def test_own_names_of_python_are_called_not_kept(self):
+        for where, parent, node in self.parents():
+            if isinstance(node, ast.Name) and node.id in OWN_NAMES_OF_PYTHON and node.id[0].islower():
+                called = isinstance(parent, ast.Call) and parent.func == node
+                self.assertTrue(called or isinstance(parent, ast.keyword), where)
+
+    def test_numbers_and_texts(self):
+        self.assertEqual(list(self.nodes(ast.Pow)), [])
+        for where, node in self.nodes(ast.Constant):
+            if isinstance(node.value, str):
+                self.assertNotIn("%", node.value, where)
+
+    def test_no_annotations_and_plain_defaults(self):
+        self.assertEqual([node for where, node in self.nodes(ast.arg) if node.annotation], [])
+        for where, node in self.nodes(ast.FunctionDef):
+            self.assertIsNone(node.returns, where)
+            self.assertEqual(node.args.defaults, [], where)
+
+    def test_each_name_once_at_the_top(self):
+        for path, tree in self.trees.items():
+            names = [name.name for node in tree.body if isinstance(node, ast.ImportFrom) for name in node.names]
+            names += [node.name for node in tree.body if isinstance(node, (ast.FunctionDef, ast.ClassDef))]
+            names += [node.targets[0].id for node in tree.body if isinstance(node, ast.Assign)]
+            self.assertEqual(len(names), len(set(names)), path)
+            for node in tree.body:
+                if isinstance(node, ast.Assign):
+                    self.assertIsInstance(ast.literal_eval(node.value), int, path)
+        for where, node in self.nodes(ast.ClassDef):
+            names = [item.name for item in node.body if isinstance(item, ast.FunctionDef)]
+            self.assertEqual(len(names), len(set(names)), where)
+
+    def test_files_don_t_draw_from_one_another(self):
+        drawn = {
+            path.stem: {node.module.split(".")[1] for node in tree.body if isinstance(node, ast.ImportFrom)}
+            for path, tree in self.trees.items()
+        }
+        while drawn:
+            free = [name for name, others in drawn.items() if not others & set(drawn)]
+            self.assertNotEqual(free, [], drawn)
+            drawn = {name: others for name, others in drawn.items() if name not in free}
+
+    def test_names_come_from_the_file_that_defines_them(self):
+        for where, node in self.nodes(ast.ImportFrom):
+            tree = self.trees[PACKAGE / (node.module.split(".")[1] + ".py")]
+            defined = [item.name for item in tree.body if isinstance(item, (ast.FunctionDef, ast.ClassDef))]
+            defined += [item.targets[0].id for item in tree.body if isinstance(item, ast.Assign)]
+            for name in node.names:
+                self.assertIn(name.name, defined, where)
+                self.assertIsNone(name.asname, where)
 
     def test_the_interface(self):
         tree = self.trees[PACKAGE / "events.py"]
